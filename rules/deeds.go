@@ -238,11 +238,11 @@ func (s *scene) door(b, d int, c change) {
 	}
 }
 
-// turn has a being turn a thing on or off.
+// turn has a being turn a thing on or off: a lamp or a cloak that it has, a box also where that lies in its sight.
 func (s *scene) turn(b int, o api.Order, c change) {
 	o.Nth, o.All = max(o.Nth, 1), false
 	among := s.hand(b)
-	if c.kind != api.Cloak {
+	if c.kind == api.Box {
 		among = s.reach(b)
 	}
 	list := s.meant(among, o)

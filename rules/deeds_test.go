@@ -533,8 +533,8 @@ type turning struct {
 var turnings = []turning{
 	{api.Open, api.Box, api.Opened, true, true, true},
 	{api.Close, api.Box, api.Closed, false, false, true},
-	{api.Light, api.Lamp, api.Lit, true, true, true},
-	{api.Douse, api.Lamp, api.Doused, false, false, true},
+	{api.Light, api.Lamp, api.Lit, true, true, false},
+	{api.Douse, api.Lamp, api.Doused, false, false, false},
 	{api.Wear, api.Cloak, api.Wore, true, false, false},
 	{api.Doff, api.Cloak, api.Doffed, false, true, false},
 }
@@ -576,7 +576,7 @@ func gear(kind int, on bool) api.Land {
 	return w
 }
 
-// P7.7: the one meant by its Name and Nth, of what is at hand, then of what is in sight (cloaks: at hand alone).
+// P7.7: the one meant by its Name and Nth, of what is at hand, then, of boxes alone, of what is in sight.
 func TestTurn(t *testing.T) {
 	for _, c := range turnings {
 		for kind := range 4 {
@@ -627,6 +627,44 @@ func TestTurnInTheDark(t *testing.T) {
 		w.Things[8] = api.Thing{Name: "bag", Kind: api.Box, Where: api.OnBeing, At: 4, On: true}
 		w.Things[7].Where, w.Things[7].At = api.InBox, 8
 		turns(t, "in a box", w, 4, api.Order{Nth: 3, Name: "toy"}, c, -1)
+	}
+}
+
+// P7.7: a thing that lies about, in the light, is turned on or off if it is a box; a lamp or a cloak is as if it were not there, until it is at hand.
+func TestTurnWhatLies(t *testing.T) {
+	for _, c := range turnings {
+		w := strewn("toy", "toy")
+		for i := range 2 {
+			w.Things[i].Kind, w.Things[i].On = c.kind, !c.on && c.kind != api.Cloak
+		}
+		for _, o := range []api.Order{{}, {Nth: 1, Name: "toy"}, {Nth: -1, Name: "toy", All: true}} {
+			lies := -1
+			if c.sight {
+				lies = 0
+			}
+			turns(t, "in sight", w, 2, o, c, lies)
+			had := w
+			had.Things[1] = api.Thing{Name: "toy", Kind: c.kind, Where: api.OnBeing, At: 2, On: !c.on}
+			turns(t, "at hand", had, 2, o, c, 1)
+			o.Nth = 2
+			turns(t, "behind the one at hand", had, 2, o, c, lies)
+		}
+	}
+}
+
+// P7.7: in the land as it begins the lamp of the hearth is lit and doused by who has taken it.
+func TestLampIsTaken(t *testing.T) {
+	light, douse := turnings[2], turnings[3]
+	w := land.New()
+	for _, o := range []api.Order{{}, {Nth: 1, Name: "lamp"}} {
+		for _, on := range bools {
+			w.Things[0] = api.Thing{Name: "lamp", Kind: api.Lamp, On: on}
+			turns(t, "it lies there", w, 0, o, light, -1)
+			turns(t, "it lies there", w, 0, o, douse, -1)
+			w, _, _ = rules.Do(w, 0, api.Order{Verb: api.Get, Nth: 1, Name: "lamp"})
+			turns(t, "it is taken", w, 0, o, light, 0)
+			turns(t, "it is taken", w, 0, o, douse, 0)
+		}
 	}
 }
 
